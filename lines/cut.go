@@ -1,4 +1,4 @@
-// Package lines cuts a line of assembly into pieces, and reads and writes instructions as texts.
+// Package lines cuts a line of assembly into pieces, reads statements, and writes instructions as texts.
 package lines
 
 import "strings"
@@ -14,7 +14,7 @@ const (
 	markPiece
 )
 
-// piece is a name or register (a word), a number, or a comma or bracket (a mark).
+// piece is a name or register (a word), a number, or a comma, colon or bracket (a mark).
 type piece struct {
 	kind pieceKind
 	text string
@@ -49,7 +49,7 @@ func cut(line string) ([]piece, bool) {
 func (c *cutter) goesOn(r rune) bool {
 	switch c.kind {
 	case wordPiece:
-		return isLetter(r) || isDigit(r)
+		return isLetter(r) || isDigit(r) || r == '.'
 	case numberPiece:
 		return isDigit(r)
 	}
@@ -59,11 +59,12 @@ func (c *cutter) goesOn(r rune) bool {
 func (c *cutter) begin(at int, r rune) bool {
 	c.from = at
 	switch {
-	case isLetter(r):
+	// A dot is part of its word, as no blank may stand behind it, nor within "c.".
+	case isLetter(r) || r == '.':
 		c.kind = wordPiece
 	case isDigit(r) || r == '-':
 		c.kind = numberPiece
-	case r == ',' || r == '(' || r == ')':
+	case r == ',' || r == ':' || r == '(' || r == ')':
 		c.kind = markPiece
 	case r == ' ' || r == '\t':
 		c.kind = noPiece

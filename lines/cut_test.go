@@ -17,6 +17,12 @@ func TestCut(t *testing.T) {
 		"a b":             {{wordPiece, "a"}, {wordPiece, "b"}},
 		"ld x1,\t8(x2)#":  {{wordPiece, "ld"}, {wordPiece, "x1"}, {markPiece, ","}, {numberPiece, "8"}, {markPiece, "("}, {wordPiece, "x2"}, {markPiece, ")"}},
 		",,":              {{markPiece, ","}, {markPiece, ","}},
+		"a :b":            {{wordPiece, "a"}, {markPiece, ":"}, {wordPiece, "b"}},
+		"c.add":           {{wordPiece, "c.add"}},
+		"c. add":          {{wordPiece, "c."}, {wordPiece, "add"}},
+		"c .add":          {{wordPiece, "c"}, {wordPiece, ".add"}},
+		"a:.byte-5":       {{wordPiece, "a"}, {markPiece, ":"}, {wordPiece, ".byte"}, {numberPiece, "-5"}},
+		". byte5":         {{wordPiece, "."}, {wordPiece, "byte5"}},
 		"-0000000000":     {{numberPiece, "-0000000000"}},
 		"0123456789 # -,": {{numberPiece, "0123456789"}},
 	} {

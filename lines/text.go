@@ -2,13 +2,12 @@ package lines
 
 import (
 	"strconv"
-	"strings"
 
 	"pinion/api"
 	"pinion/isa"
 )
 
-// shapeOf tells what stands behind the name of an instruction: d, s and t are Rd, Rs1 and Rs2, i is Imm, all else is itself.
+// shapeOf tells what stands behind the name of an instruction: d, s and t are Rd, Rs1 and Rs2, i is Imm, p is Imm or a target, all else is itself.
 // Writing and reading both go by it, so that they can't differ.
 func shapeOf(kind isa.Kind) string {
 	switch kind {
@@ -21,9 +20,11 @@ func shapeOf(kind isa.Kind) string {
 	case isa.KindS:
 		return "t,i(s)"
 	case isa.KindB:
-		return "s,t,i"
-	case isa.KindU, isa.KindJ:
+		return "s,t,p"
+	case isa.KindU:
 		return "d,i"
+	case isa.KindJ:
+		return "d,p"
 	default:
 		return ""
 	}
@@ -54,7 +55,7 @@ func showPart(i api.Ins, part rune) string {
 		return showRegister(i.Rs1)
 	case 't':
 		return showRegister(i.Rs2)
-	case 'i':
+	case 'i', 'p':
 		return strconv.Itoa(i.Imm)
 	case ',':
 		return ", "
@@ -64,89 +65,3 @@ func showPart(i api.Ins, part rune) string {
 }
 
 func showRegister(register int) string { return "x" + strconv.Itoa(register) }
-
-// Read tells the instruction of a text that is one instruction.
-func Read(text string) (api.Ins, api.Errno) {
-	// A remark ends with its line: an LF in it is still one too many.
-	if len(text) > api.MaxText || strings.Contains(text, "\n") {
-		return api.Ins{}, api.ErrSyntax
-	}
-	pieces, ok := cut(text)
-	if !ok {
-		return api.Ins{}, api.ErrSyntax
-	}
-	i, ok := readInstruction(pieces)
-	if !ok {
-		return api.Ins{}, api.ErrSyntax
-	}
-	// Registers are right by their spelling: only Imm can be wrong by now.
-	if _, ok := isa.Right(i); !ok {
-		return api.Ins{}, api.ErrRange
-	}
-	return i, api.OK
-}
-
-func readInstruction(pieces []piece) (api.Ins, bool) {
-	if len(pieces) == 0 {
-		return api.Ins{}, false
-	}
-	row, ok := isa.Named(pieces[0].text)
-	if !ok {
-		return api.Ins{}, false
-	}
-	i := api.Ins{Op: row.Op}
-	if !readShape(&i, shapeOf(row.Kind), pieces[1:]) {
-		return api.Ins{}, false
-	}
-	return i, true
-}
-
-func readShape(i *api.Ins, shape string, pieces []piece) bool {
-	if len(pieces) != len(shape) {
-		return false
-	}
-	for n, part := range shape {
-		if !readPart(i, part, pieces[n]) {
-			return false
-		}
-	}
-	return true
-}
-
-func readPart(i *api.Ins, part rune, p piece) bool {
-	ok := true
-	switch part {
-	case 'd':
-		i.Rd, ok = readRegister(p)
-	case 's':
-		i.Rs1, ok = readRegister(p)
-	case 't':
-		i.Rs2, ok = readRegister(p)
-	case 'i':
-		i.Imm, ok = readNumber(p)
-	default:
-		ok = p.text == string(part)
-	}
-	return ok
-}
-
-func readRegister(p piece) (int, bool) {
-	digits, ok := strings.CutPrefix(p.text, "x")
-	if !ok {
-		return 0, false
-	}
-	register, err := strconv.Atoi(digits)
-	// Written again it must be the same: that rules out noughts ahead.
-	if err != nil || register > isa.MostRegister || showRegister(register) != p.text {
-		return 0, false
-	}
-	return register, true
-}
-
-func readNumber(p piece) (int, bool) {
-	if p.kind != numberPiece {
-		return 0, false
-	}
-	number, err := strconv.Atoi(p.text)
-	return number, err == nil
-}

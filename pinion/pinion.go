@@ -3,6 +3,7 @@ package pinion
 
 import (
 	"pinion/api"
+	"pinion/asm"
 	"pinion/isa"
 	"pinion/lines"
 )
@@ -20,20 +21,20 @@ func Show(i api.Ins) (string, api.Errno) { return lines.Show(i) }
 func Read(text string) (api.Ins, api.Errno) { return lines.Read(text) }
 
 // Short tells an instruction's short form (P4).
-func Short(i api.Ins) (int, api.Errno) { return 0, api.OK }
+func Short(i api.Ins) (int, api.Errno) { return isa.Short(i) }
 
 // Expand tells what a half stands for (P4).
-func Expand(half int) (api.Ins, api.Errno) { return api.Ins{}, api.OK }
+func Expand(half int) (api.Ins, api.Errno) { return isa.Expand(half) }
 
 // Assemble makes bytes of a text (P5).
-func Assemble(text string, short bool) (string, api.Fault) { return "", api.Fault{} }
+func Assemble(text string, short bool) (string, api.Fault) { return asm.Assemble(text, short) }
 
 // Disassemble makes a text of bytes (P6).
-func Disassemble(code string) (string, api.Errno) { return "", api.OK }
+func Disassemble(code string) (string, api.Errno) { return asm.Disassemble(code) }
 
 // Items goes through the instructions of some bytes (P5).
 func Items(code string) func(yield func(at int, i api.Ins) bool) {
-	return func(yield func(at int, i api.Ins) bool) {}
+	return asm.Items(code)
 }
 
 // Machine has memory, registers, and a pc.
