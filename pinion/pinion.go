@@ -6,6 +6,7 @@ import (
 	"pinion/asm"
 	"pinion/isa"
 	"pinion/lines"
+	"pinion/machine"
 )
 
 // Encode tells an instruction's word (P2).
@@ -38,28 +39,44 @@ func Items(code string) func(yield func(at int, i api.Ins) bool) {
 }
 
 // Machine has memory, registers, and a pc.
-type Machine struct{}
+type Machine struct {
+	state machine.Machine
+}
 
 // New makes a machine (P7).
-func New(code string) (*Machine, api.Errno) { return nil, api.OK }
+func New(code string) (*Machine, api.Errno) {
+	m, e := machine.New(code)
+	if e != api.OK {
+		return nil, e
+	}
+	return &Machine{*m}, api.OK
+}
 
 // Set sets a register (P7).
-func (m *Machine) Set(register int, value int) api.Errno { return api.OK }
+func (m *Machine) Set(register int, value int) api.Errno { return m.inner().Set(register, value) }
 
 // Get tells a register (P7).
-func (m *Machine) Get(register int) (int, api.Errno) { return 0, api.OK }
+func (m *Machine) Get(register int) (int, api.Errno) { return m.inner().Get(register) }
 
 // Poke writes a byte (P7).
-func (m *Machine) Poke(address int, value int) api.Errno { return api.OK }
+func (m *Machine) Poke(address int, value int) api.Errno { return m.inner().Poke(address, value) }
 
 // Peek reads a byte (P7).
-func (m *Machine) Peek(address int) (int, api.Errno) { return 0, api.OK }
+func (m *Machine) Peek(address int) (int, api.Errno) { return m.inner().Peek(address) }
 
 // Pc tells pc (P7).
-func (m *Machine) Pc() int { return 0 }
+func (m *Machine) Pc() int { return m.inner().Pc() }
 
 // Step does one step (P7).
-func (m *Machine) Step() api.Event { return api.Event{} }
+func (m *Machine) Step() api.Event { return m.inner().Step() }
 
 // Run does steps (P7).
-func (m *Machine) Run(most int) (api.Event, int) { return api.Event{}, 0 }
+func (m *Machine) Run(most int) (api.Event, int) { return m.inner().Run(most) }
+
+// inner is for the nil, too, that New gives beside an error: the state of none can't be named.
+func (m *Machine) inner() *machine.Machine {
+	if m == nil {
+		return nil
+	}
+	return &m.state
+}
